@@ -36,14 +36,6 @@ func everyByte() string {
 	return string(b)
 }
 
-// shown keeps a failing test of long strings readable.
-func shown(s string) string {
-	if len(s) > 40 {
-		return s[:40] + ".."
-	}
-	return s
-}
-
 func TestFormatIntWritesDecimals(t *testing.T) {
 	for _, c := range []struct {
 		n    int

@@ -480,11 +480,7 @@ func TestParseOwnersRefusesOtherTexts(t *testing.T) {
 func TestNoFrameIsLostOrMadeUp(t *testing.T) {
 	for size := 1; size <= impl.MaxFrames; size++ {
 		owners, record := make([]int, size), make([]int, size)
-		seed := 7 * size
-		next := func(n int) int {
-			seed = (seed*1103515245 + 12345) % (1 << 31)
-			return (seed >> 8) % n
-		}
+		next := numbers(7 * size)
 		for step := range 400 {
 			guest := 1 + next(impl.MaxGuests)
 			switch next(5) {
@@ -617,30 +613,12 @@ func TestFrameArgumentsAreNotChanged(t *testing.T) {
 	}
 }
 
-// Each list is overwritten up to its capacity; all the others must stay as they are.
 func TestFrameResultsAreNotShared(t *testing.T) {
 	for _, text := range []string{"1..2...1", "1..", "12..", "1............2.."} {
 		for name, call := range frameCalls {
 			owners := append(listFrom(text), 9, 9, 9)
 			lists := append(call(owners[:len(text)]), call(owners[:len(text)])...)
-			lists = append(lists, owners)
-			for i := range lists {
-				var before [][]int
-				for _, list := range lists {
-					before = append(before, slices.Clone(list))
-				}
-				whole := lists[i][:cap(lists[i])]
-				saved := slices.Clone(whole)
-				for j := range whole {
-					whole[j] = -5
-				}
-				for j := range lists {
-					if j != i && !slices.Equal(lists[j], before[j]) {
-						t.Errorf("%s(%q): the list %d shares memory with the list %d", name, text, i, j)
-					}
-				}
-				copy(whole, saved)
-			}
+			wantNotShared(t, name+" "+text, append(lists, owners))
 		}
 	}
 }
