@@ -21,18 +21,18 @@ func numbers(seed int) func(int) int {
 	}
 }
 
-// wantNotShared overwrites each list up to its capacity; all the others must stay as they are.
-func wantNotShared(t *testing.T, name string, lists [][]int) {
+// wantNotShared overwrites each list with an odd value, up to its capacity; all the others must stay as they are.
+func wantNotShared[T comparable](t *testing.T, name string, lists [][]T, odd T) {
 	t.Helper()
 	for i := range lists {
-		var before [][]int
+		var before [][]T
 		for _, list := range lists {
 			before = append(before, slices.Clone(list))
 		}
 		whole := lists[i][:cap(lists[i])]
 		saved := slices.Clone(whole)
 		for j := range whole {
-			whole[j] = -5
+			whole[j] = odd
 		}
 		for j := range lists {
 			if j != i && !slices.Equal(lists[j], before[j]) {

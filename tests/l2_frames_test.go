@@ -618,7 +618,7 @@ func TestFrameResultsAreNotShared(t *testing.T) {
 		for name, call := range frameCalls {
 			owners := append(listFrom(text), 9, 9, 9)
 			lists := append(call(owners[:len(text)]), call(owners[:len(text)])...)
-			wantNotShared(t, name+" "+text, append(lists, owners))
+			wantNotShared(t, name+" "+text, append(lists, owners), -5)
 		}
 	}
 }

@@ -879,7 +879,7 @@ func TestGuestResultsAreNotShared(t *testing.T) {
 			reached, _ := impl.ReachedBy(program)
 			lists = append(lists, reached)
 		}
-		wantNotShared(t, text, lists)
+		wantNotShared(t, text, lists, -5)
 	}
 }
 
